@@ -390,6 +390,8 @@ func TestLastOfABreak(t *testing.T) {
 	p.Shutdown()
 	p.gets(p.headers(9, request("GET"), true))
 	p.sends("GOAWAY last 5", "RST 9 code 7")
+	p.Shutdown()
+	p.sends()
 	p.feeds(noInc(0))
 	p.breaks(api.ProtocolError, 5)
 	p = server(t)
